@@ -1,7 +1,10 @@
 // Package datum is layer 1: see shared/doc/01-datum.md.
 package datum
 
-import "conduit/api"
+import (
+	"conduit/api"
+	"conduit/value"
+)
 
 // Valid tells whether a value is one.
 func Valid(d api.Datum) bool {
@@ -35,8 +38,8 @@ func Same(a, b api.Datum) bool {
 
 // Equal is a == b of two interface values.
 func Equal(a, b api.Datum) (is bool, fault api.Errno) {
-	m := newSharing()
-	x, y := m.value(a), m.value(b)
+	m := value.NewSharing()
+	x, y := m.Of(a), m.Of(b)
 	defer func() {
 		if recover() != nil {
 			is, fault = false, api.ErrCompare
@@ -47,7 +50,7 @@ func Equal(a, b api.Datum) (is bool, fault api.Errno) {
 
 // Group numbers values as a map does that has them for keys.
 func Group(l []api.Datum) (places []int, fault api.Errno) {
-	m := newSharing()
+	m := value.NewSharing()
 	firsts := map[any]int{}
 	defer func() {
 		if recover() != nil {
@@ -55,7 +58,7 @@ func Group(l []api.Datum) (places []int, fault api.Errno) {
 		}
 	}()
 	for i, d := range l {
-		v := m.value(d)
+		v := m.Of(d)
 		first, known := firsts[v]
 		if !known {
 			first = i
@@ -68,13 +71,12 @@ func Group(l []api.Datum) (places []int, fault api.Errno) {
 
 // Has tells whether a kind has a method.
 func Has(kind, method int) bool {
-	// Any value of the kind will do: its type alone has the methods.
-	return answers(value(api.Datum{Kind: kind}), method)
+	return answers(value.OfKind(kind), method)
 }
 
 // Length is what Size answers.
 func Length(d api.Datum) (int, api.Errno) {
-	if v, ok := value(d).(sized); ok {
+	if v, ok := value.Of(d).(value.Sized); ok {
 		return v.Size(), api.OK
 	}
 	return 0, api.ErrMethod
@@ -82,7 +84,7 @@ func Length(d api.Datum) (int, api.Errno) {
 
 // Label is what Name answers.
 func Label(d api.Datum) (string, api.Errno) {
-	if v, ok := value(d).(named); ok {
+	if v, ok := value.Of(d).(value.Named); ok {
 		return v.Name(), api.OK
 	}
 	return "", api.ErrMethod
@@ -95,7 +97,7 @@ func Words(d api.Datum) (words string, fault api.Errno) {
 			words, fault = "", api.ErrNilCall
 		}
 	}()
-	if v, ok := value(d).(failing); ok {
+	if v, ok := value.Of(d).(value.Failing); ok {
 		return v.Error(), api.OK
 	}
 	return "", api.ErrMethod
@@ -108,32 +110,32 @@ func Open(d api.Datum) (inside api.Datum, fault api.Errno) {
 			inside, fault = api.Datum{}, api.ErrNilCall
 		}
 	}()
-	if v, ok := value(d).(opening); ok {
-		return plain(v.Open()), api.OK
+	if v, ok := value.Of(d).(value.Opening); ok {
+		return value.Plain(v.Open()), api.OK
 	}
 	return api.Datum{}, api.ErrMethod
 }
 
 // Less is what Less answers.
 func Less(a, b api.Datum) (bool, api.Errno) {
-	if v, ok := value(a).(ordered); ok {
-		return v.Less(value(b))
+	if v, ok := value.Of(a).(value.Ordered); ok {
+		return v.Less(value.Of(b))
 	}
 	return false, api.ErrMethod
 }
 
 // Add is what Add answers.
 func Add(a, b api.Datum) (api.Datum, api.Errno) {
-	if v, ok := value(a).(adding); ok {
-		sum, fault := v.Add(value(b))
-		return plain(sum), fault
+	if v, ok := value.Of(a).(value.Adding); ok {
+		sum, fault := v.Add(value.Of(b))
+		return value.Plain(sum), fault
 	}
 	return api.Datum{}, api.ErrMethod
 }
 
 // Print writes a value.
 func Print(d api.Datum) string {
-	return string(appendValue(nil, value(d)))
+	return string(appendValue(nil, value.Of(d)))
 }
 
 // Parse reads one.

@@ -3,35 +3,37 @@ package datum
 import (
 	"math"
 	"strconv"
+
+	"conduit/value"
 )
 
 const digits = "0123456789abcdef"
 
 func appendValue(out []byte, v any) []byte {
 	switch v := v.(type) {
-	case whole:
+	case value.Whole:
 		return strconv.AppendInt(out, int64(v), 10)
-	case key:
+	case value.Key:
 		return strconv.AppendInt(append(out, '#'), int64(v), 10)
-	case float:
+	case value.Float:
 		return appendBits(append(out, 'f'), math.Float64bits(float64(v)))
-	case text:
+	case value.Text:
 		return appendQuoted(out, string(v))
-	case name:
+	case value.Name:
 		return appendQuoted(append(out, '@'), string(v))
-	case truth:
+	case value.Truth:
 		return strconv.AppendBool(out, bool(v))
-	case octets:
+	case value.Octets:
 		return appendOctets(append(out, '%'), v)
-	case row:
+	case value.Row:
 		return append(appendRow(append(out, '['), v), ']')
-	case pair:
-		return append(appendRow(append(out, '('), row{v.first, v.second}), ')')
-	case failure:
-		return appendQuoted(strconv.AppendInt(append(out, '!'), v.code, 10), v.words)
-	case *box:
+	case value.Pair:
+		return append(appendRow(append(out, '('), value.Row{v.First, v.Second}), ')')
+	case value.Failure:
+		return appendQuoted(strconv.AppendInt(append(out, '!'), v.Code, 10), v.Words)
+	case *value.Box:
 		return appendPointer(append(out, '&'), v)
-	case unit:
+	case value.Unit:
 		return append(out, "{}"...)
 	}
 	return append(out, "nil"...)
@@ -48,7 +50,7 @@ func appendOctet(out []byte, c byte) []byte {
 	return append(out, digits[c>>4], digits[c&15])
 }
 
-func appendOctets(out []byte, o octets) []byte {
+func appendOctets(out []byte, o value.Octets) []byte {
 	for _, c := range o {
 		out = appendOctet(out, c)
 	}
@@ -72,7 +74,7 @@ func appendQuoted(out []byte, s string) []byte {
 
 func needsDigits(c byte) bool { return c < 32 || c > 126 }
 
-func appendRow(out []byte, r row) []byte {
+func appendRow(out []byte, r value.Row) []byte {
 	for i, v := range r {
 		if i > 0 {
 			out = append(out, ", "...)
@@ -82,10 +84,10 @@ func appendRow(out []byte, r row) []byte {
 	return out
 }
 
-func appendPointer(out []byte, b *box) []byte {
+func appendPointer(out []byte, b *value.Box) []byte {
 	if b == nil {
 		return append(out, "nil"...)
 	}
-	out = append(strconv.AppendInt(out, b.number, 10), '(')
-	return append(appendValue(out, b.inside), ')')
+	out = append(strconv.AppendInt(out, b.Number, 10), '(')
+	return append(appendValue(out, b.Inside), ')')
 }
