@@ -51,3 +51,29 @@ func TestSharing(t *testing.T) {
 		t.Error("pointers")
 	}
 }
+
+// A copy is the same, and changes with nothing.
+func TestCopy(t *testing.T) {
+	for _, s := range texts {
+		d := read(t, s)
+		c := value.Copy(d)
+		if !datum.Same(c, d) {
+			t.Errorf("%s: %s", s, datum.Print(c))
+		}
+		for _, l := range [][]api.Datum{d.List, value.CopyAll(d.List)} {
+			for i := range l {
+				for j := range l[i].List {
+					l[i].List[j] = api.Datum{Kind: api.KName}
+				}
+				l[i] = api.Datum{Kind: api.KName}
+			}
+		}
+		if !datum.Same(c, read(t, s)) {
+			t.Errorf("%s became %s", s, datum.Print(c))
+		}
+	}
+	spare := make([]api.Datum, 3)
+	if value.CopyAll(spare[:0]) != nil || value.Copy(api.Datum{List: spare[:0]}).List != nil {
+		t.Error("spare room is handed on")
+	}
+}

@@ -1,0 +1,48 @@
+package core
+
+import (
+	"conduit/api"
+	"conduit/value"
+)
+
+// store keeps bodies, each key once.
+type store struct {
+	*api.CoreState
+	room   int64 // 0: without end
+	maker  value.Maker
+	places map[any]int
+}
+
+// Handle panics by the map itself, if the body can't be a key.
+func (s *store) Handle(d api.Datum) (answer, error) {
+	s.know()
+	key := s.maker.Of(d)
+	place, known := s.places[key]
+	if known {
+		return answered(whole(int64(place)))
+	}
+	place = len(s.List)
+	if s.room > 0 && int64(place) >= s.room {
+		return answer{}, says(codeFull)
+	}
+	s.List = append(s.List, value.Copy(d))
+	s.places[key] = place
+	return answered(whole(int64(place)))
+}
+
+// know puts what is kept into the map, once: a batch asks it many times, and what handles nothing never.
+func (s *store) know() {
+	if s.places != nil {
+		return
+	}
+	s.maker, s.places = value.NewSharing(), map[any]int{}
+	for i, d := range s.List {
+		s.places[s.maker.Of(d)] = i
+	}
+}
+
+func (s *store) Flush() int {
+	n := len(s.List)
+	s.List, s.places = nil, nil
+	return n
+}

@@ -1,0 +1,51 @@
+// Package panics is how handlers panic: with values of types of their own, so that who catches one tells by its type what it was.
+package panics
+
+import (
+	"conduit/api"
+	"conduit/value"
+)
+
+// What a handler panics with, beside an error (a value.Failure) and what the language itself does.
+type (
+	Assertion  int64 // one that does not hold: the kind that is there, or the method that is not
+	NilPointer struct{}
+	Index      int64
+	Own        int64
+)
+
+// failure has the methods of the library's runtime.Error.
+type failure interface {
+	error
+	RuntimeError()
+}
+
+// Caught is what something comes to, be it a panic.
+func Caught(do func() api.Result) (r api.Result) {
+	defer func() {
+		if came := recover(); came != nil {
+			r = api.Result{Err: api.ErrPanic, Panic: told(came)}
+		}
+	}()
+	return do()
+}
+
+// told is what a panic was. One that is none of these is no handler's, and goes on.
+func told(came any) api.Panic {
+	switch p := came.(type) {
+	case Assertion:
+		return api.Panic{Kind: api.PanAssert, Num: int64(p)}
+	case NilPointer:
+		return api.Panic{Kind: api.PanNil}
+	case Index:
+		return api.Panic{Kind: api.PanIndex, Num: int64(p)}
+	case Own:
+		return api.Panic{Kind: api.PanOwn, Num: int64(p)}
+	case value.Failure:
+		return api.Panic{Kind: api.PanError, Num: p.Code}
+	case failure:
+		// The steps ask ahead for all else that the language would panic of; what is left to it is values held against each other, as keys of a map too.
+		return api.Panic{Kind: api.PanCompare}
+	}
+	panic(came)
+}
