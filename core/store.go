@@ -2,6 +2,7 @@ package core
 
 import (
 	"conduit/api"
+	"conduit/panics"
 	"conduit/value"
 )
 
@@ -13,21 +14,27 @@ type store struct {
 	places map[any]int
 }
 
-// Handle panics by the map itself, if the body can't be a key.
 func (s *store) Handle(d api.Datum) (answer, error) {
 	s.know()
 	key := s.maker.Of(d)
-	place, known := s.places[key]
-	if known {
-		return answered(whole(int64(place)))
+	if s.has(key) {
+		return answered(whole(int64(s.places[key])))
 	}
-	place = len(s.List)
+	place := len(s.List)
 	if s.room > 0 && int64(place) >= s.room {
 		return answer{}, says(codeFull)
 	}
 	s.List = append(s.List, value.Copy(d))
 	s.places[key] = place
 	return answered(whole(int64(place)))
+}
+
+// has leaves it to the map to panic of what can't be a key.
+func (s *store) has(key any) bool {
+	return panics.As(panics.Comparison{}, func() bool {
+		_, known := s.places[key]
+		return known
+	})
 }
 
 // know puts what is kept into the map, once: a batch asks it many times, and what handles nothing never.

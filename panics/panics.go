@@ -6,18 +6,24 @@ import (
 	"conduit/value"
 )
 
-// What a handler panics with, beside an error (a value.Failure) and what the language itself does.
+// What a handler panics with, beside an error (a value.Failure).
 type (
 	Assertion  int64 // one that does not hold: the kind that is there, or the method that is not
 	NilPointer struct{}
 	Index      int64
+	Comparison struct{} // of what can't be compared, by == or as keys of a map
+	Division   struct{}
 	Own        int64
 )
 
-// failure has the methods of the library's runtime.Error.
-type failure interface {
-	error
-	RuntimeError()
+// As does something of which the language itself may panic, and panics with cause in its stead: what the language panics with has no type that would tell one from another.
+func As[T any](cause any, do func() T) T {
+	defer func() {
+		if recover() != nil {
+			panic(cause)
+		}
+	}()
+	return do()
 }
 
 // Caught is what something comes to, be it a panic.
@@ -39,13 +45,14 @@ func told(came any) api.Panic {
 		return api.Panic{Kind: api.PanNil}
 	case Index:
 		return api.Panic{Kind: api.PanIndex, Num: int64(p)}
+	case Comparison:
+		return api.Panic{Kind: api.PanCompare}
+	case Division:
+		return api.Panic{Kind: api.PanDivide}
 	case Own:
 		return api.Panic{Kind: api.PanOwn, Num: int64(p)}
 	case value.Failure:
 		return api.Panic{Kind: api.PanError, Num: p.Code}
-	case failure:
-		// The steps ask ahead for all else that the language would panic of; what is left to it is values held against each other, as keys of a map too.
-		return api.Panic{Kind: api.PanCompare}
 	}
 	panic(came)
 }

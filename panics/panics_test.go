@@ -2,6 +2,7 @@ package panics
 
 import (
 	"errors"
+	"runtime"
 	"testing"
 
 	"conduit/api"
@@ -31,7 +32,6 @@ func same(a, b api.Result) bool {
 
 // Each kind of panic is told by its type.
 func TestCaught(t *testing.T) {
-	var key any = value.Row{}
 	for _, c := range []struct {
 		do   func()
 		want api.Panic
@@ -41,8 +41,8 @@ func TestCaught(t *testing.T) {
 		{func() { panic(Index(1 << 40)) }, api.Panic{Kind: api.PanIndex, Num: 1 << 40}},
 		{func() { panic(Own(7)) }, api.Panic{Kind: api.PanOwn, Num: 7}},
 		{func() { panic(value.Failure{Code: -3}) }, api.Panic{Kind: api.PanError, Num: -3}},
-		{func() { _ = key == key }, api.Panic{Kind: api.PanCompare}},
-		{func() { _ = map[any]int{}[key] }, api.Panic{Kind: api.PanCompare}},
+		{func() { panic(Comparison{}) }, api.Panic{Kind: api.PanCompare}},
+		{func() { panic(Division{}) }, api.Panic{Kind: api.PanDivide}},
 	} {
 		if got := caught(c.do); !same(got, api.Result{Err: api.ErrPanic, Panic: c.want}) {
 			t.Errorf("%+v, not %+v", got, c.want)
@@ -70,6 +70,32 @@ func TestCaughtWithin(t *testing.T) {
 	}
 }
 
+// What the language panics of is told as what it is said to be; where it does not panic, what comes is answered.
+func TestAs(t *testing.T) {
+	var (
+		row  any = value.Row{}
+		none []int
+		box  *value.Box
+		zero int
+	)
+	for _, do := range []func() int{
+		func() int { return map[any]int{}[row] },
+		func() int { return map[bool]int{}[row == row] },
+		func() int { return none[zero] },
+		func() int { return box.Open().(int) },
+		func() int { return row.(int) },
+		func() int { return 1 / zero },
+	} {
+		got := caught(func() { As(Own(5), do) })
+		if !same(got, api.Result{Err: api.ErrPanic, Panic: api.Panic{Kind: api.PanOwn, Num: 5}}) {
+			t.Errorf("%+v", got)
+		}
+	}
+	if got := caught(func() { zero = As(Own(5), func() int { return 3 }) }); got.Err != api.OK || zero != 3 {
+		t.Errorf("%+v, %d", got, zero)
+	}
+}
+
 // A panic that is no handler's goes on.
 func TestOtherPanicsGoOn(t *testing.T) {
 	for _, p := range []any{"other", 7, api.ErrRange, errors.New("other")} {
@@ -84,10 +110,27 @@ func TestOtherPanicsGoOn(t *testing.T) {
 	}
 }
 
+// What the language panics of goes on, unless somebody said what it is.
+func TestOwnFaultsGoOn(t *testing.T) {
+	defer func() {
+		if err, ok := recover().(runtime.Error); !ok {
+			t.Error(err)
+		}
+	}()
+	var row any = value.Row{}
+	t.Errorf("%+v", caught(func() { _ = row == row }))
+}
+
 // The steps answer, or panic as the chapters say.
 func TestSteps(t *testing.T) {
 	must := func(kind int) func(api.Datum) api.Datum {
 		return func(d api.Datum) api.Datum { return Must(d, kind) }
+	}
+	face := func(face int) func(api.Datum) api.Datum {
+		return func(d api.Datum) api.Datum {
+			Face(d, face)
+			return d
+		}
 	}
 	place := func(at int64) func(api.Datum) api.Datum {
 		return func(d api.Datum) api.Datum { return Place(d, at) }
@@ -102,6 +145,11 @@ func TestSteps(t *testing.T) {
 		{must(api.KInt), `"x"`, "", api.Panic{Kind: api.PanAssert, Num: api.KText}},
 		{must(api.KInt), "nil", "", api.Panic{Kind: api.PanAssert, Num: api.KNil}},
 		{must(api.KList), "[[1]]", "[[1]]", api.Panic{}},
+		{face(api.FSized), "&nil", "&nil", api.Panic{}},
+		{face(api.FSized), "5", "", api.Panic{Kind: api.PanAssert, Num: api.MSize}},
+		{face(api.FWhole), `"x"`, "", api.Panic{Kind: api.PanAssert, Num: api.MName}},
+		{face(api.FSized), "nil", "", api.Panic{Kind: api.PanAssert, Num: -1}},
+		{face(api.NumFaces), `"x"`, "", api.Panic{Kind: api.PanAssert, Num: -1}},
 		{Open, "&2([1])", "[1]", api.Panic{}},
 		{Open, "&nil", "", api.Panic{Kind: api.PanNil}},
 		{Open, "5", "", api.Panic{Kind: api.PanAssert, Num: api.MOpen}},

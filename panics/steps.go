@@ -2,7 +2,7 @@ package panics
 
 import (
 	"conduit/api"
-	"conduit/datum"
+	"conduit/value"
 	"conduit/want"
 )
 
@@ -15,23 +15,23 @@ func Must(d api.Datum, kind int) api.Datum {
 	return is
 }
 
-// Open is what d, asserted to what can be opened, opens to.
-func Open(d api.Datum) api.Datum {
-	if miss, fault := want.MustFace(d, api.FOpening); fault != api.OK {
+// Face asserts d to an interface.
+func Face(d api.Datum, face int) {
+	if miss, fault := want.MustFace(d, face); fault != api.OK {
 		panic(Assertion(miss.Method))
 	}
-	inside, fault := datum.Open(d)
-	if fault != api.OK {
-		panic(NilPointer{})
-	}
-	return inside
+}
+
+// Open is what d, asserted to what can be opened, opens to.
+func Open(d api.Datum) api.Datum {
+	Face(d, api.FOpening)
+	// The call goes through an interface that may hold a nil pointer.
+	box := value.Of(d).(value.Opening)
+	return value.Plain(As(NilPointer{}, func() any { return box.Open() }))
 }
 
 // Place is a place of d, asserted to a list.
 func Place(d api.Datum, at int64) api.Datum {
 	l := Must(d, api.KList).List
-	if at < 0 || at >= int64(len(l)) {
-		panic(Index(at))
-	}
-	return l[at]
+	return As(Index(at), func() api.Datum { return l[at] })
 }
