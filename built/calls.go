@@ -4,6 +4,7 @@ import (
 	"conduit/api"
 	"conduit/breaker"
 	"conduit/buffer"
+	"conduit/fits"
 	"conduit/guard"
 	"conduit/shown"
 	"conduit/value"
@@ -120,7 +121,7 @@ func (w lasting) until(arg api.Datum) api.Result {
 	if tick.Err != api.OK {
 		return tick
 	}
-	if !isTick(tick.Body.Int) {
+	if !fits.Tick(tick.Body.Int) {
 		return refused(api.ErrRange)
 	}
 	w.Until = tick.Body.Int

@@ -1,12 +1,9 @@
 package built
 
 import (
-	"slices"
-
 	"conduit/api"
-	"conduit/buffer"
+	"conduit/copies"
 	"conduit/core"
-	"conduit/value"
 )
 
 // level is a level of a chain at work, with what every level can do. What only some can, having another one within and letting time pass, is no method of it: a wrapper embeds the level below as a level, so that neither is promoted, and both are found by asking.
@@ -30,24 +27,11 @@ type run struct {
 
 // newRun has a state in memory of its own, with a place for each wrapper, so that levels may work on it where it lies.
 func newRun(ch api.Chain, st api.Built, now int64) *run {
-	r := &run{now: now}
-	r.state.Core = st.Core
-	r.state.Core.Last = value.Copy(st.Core.Last)
-	r.state.Core.List = value.CopyAll(st.Core.List)
-	r.state.Wraps = make([]api.WrapState, len(ch.Wraps))
-	copy(r.state.Wraps, st.Wraps)
-	for i := range r.state.Wraps {
-		w := &r.state.Wraps[i]
-		w.Dedup.Ids = slices.Clone(w.Dedup.Ids)
-		w.Buffer.Msgs = heldBy(w.Buffer)
-	}
+	r := &run{now: now, state: copies.Built(st)}
+	places := make([]api.WrapState, len(ch.Wraps))
+	copy(places, r.state.Wraps)
+	r.state.Wraps = places
 	return r
-}
-
-// heldBy is the messages of a buffer, in memory of their own.
-func heldBy(b api.Buffer) []api.Msg {
-	_, l := buffer.Flush(b)
-	return l
 }
 
 // outermost is the levels of a chain at work on the run's state, each around the one below it.

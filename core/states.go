@@ -2,6 +2,7 @@ package core
 
 import (
 	"conduit/api"
+	"conduit/copies"
 	"conduit/datum"
 	"conduit/value"
 )
@@ -10,8 +11,6 @@ import (
 const most = 1 << 62
 
 func isCount(n int64) bool { return 0 <= n && n <= most }
-
-func isTick(n int64) bool { return 0 <= n && n <= api.MaxTick }
 
 func oneMore(n int64) int64 { return min(n+1, most) }
 
@@ -31,12 +30,6 @@ func areKeys(l []api.Datum) bool {
 	return fault == api.OK
 }
 
-func copyOf(st api.CoreState) api.CoreState {
-	st.Last = value.Copy(st.Last)
-	st.List = value.CopyAll(st.List)
-	return st
-}
-
 func whole(n int64) api.Datum { return value.Plain(value.Whole(n)) }
 
 func truth(is bool) api.Datum { return value.Plain(value.Truth(is)) }
@@ -46,7 +39,7 @@ func list(l ...api.Datum) api.Datum { return api.Datum{Kind: api.KList, List: l}
 func pair(a, b api.Datum) api.Datum { return api.Datum{Kind: api.KPair, List: []api.Datum{a, b}} }
 
 func saved(st api.CoreState) api.Datum {
-	st = copyOf(st)
+	st = copies.Core(st)
 	return pair(
 		list(whole(st.Count), whole(st.Acked), whole(st.Until), truth(st.Closed)),
 		pair(st.Last, list(st.List...)),
@@ -75,7 +68,7 @@ func areOf(l []api.Datum, kinds ...int) bool {
 // loaded is the state of a value of that form, fit or not.
 func loaded(d api.Datum) api.CoreState {
 	numbers, values := d.List[0].List, d.List[1].List
-	return copyOf(api.CoreState{
+	return copies.Core(api.CoreState{
 		Count:  numbers[0].Int,
 		Acked:  numbers[1].Int,
 		Until:  numbers[2].Int,

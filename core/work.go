@@ -2,6 +2,8 @@ package core
 
 import (
 	"conduit/api"
+	"conduit/copies"
+	"conduit/fits"
 	"conduit/panics"
 	"conduit/value"
 )
@@ -15,7 +17,7 @@ type work struct {
 }
 
 func newWork(co api.Core, st api.CoreState, now int64) *work {
-	w := &work{core: co, state: copyOf(st), now: now}
+	w := &work{core: co, state: copies.Core(st), now: now}
 	w.handler = handlerOf(co, &w.state)
 	return w
 }
@@ -146,7 +148,7 @@ func (w *work) load(arg api.Datum) {
 
 func (w *work) until(arg api.Datum) error {
 	tick := panics.Must(arg, api.KInt).Int
-	if !isTick(tick) {
+	if !fits.Tick(tick) {
 		return api.ErrRange
 	}
 	w.state.Until = tick
