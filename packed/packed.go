@@ -1,4 +1,4 @@
-// Package packed is numbers and texts as bytes, as chapter 26 has them: written behind others, and read by a cursor.
+// Package packed is numbers and texts as bytes, as chapters 26 and 27 have them: written behind others, and read by a cursor.
 package packed
 
 import (
@@ -8,6 +8,7 @@ import (
 )
 
 const (
+	byteBits  = 8
 	groupBits = 7
 	groupMask = 1<<groupBits - 1
 	more      = 1 << groupBits // in a byte behind which its number goes on
@@ -34,6 +35,15 @@ func AppendSigned(b []byte, n int64) []byte {
 // AppendText writes a text.
 func AppendText(b []byte, s string) []byte {
 	return append(AppendNumber(b, uint64(len(s))), s...)
+}
+
+// AppendFixed writes a number's lowest bytes, so many, the lowest first.
+func AppendFixed(b []byte, n uint64, width int) []byte {
+	for range width {
+		b = append(b, byte(n))
+		n >>= byteBits
+	}
+	return b
 }
 
 // Cursor goes over bytes. It keeps what fails first, and all that it reads from there on is nought: so it need be asked only once, at the end.
@@ -128,4 +138,13 @@ func (c *Cursor) Signed() int64 {
 // Text reads a text that is at most so long.
 func (c *Cursor) Text(most int) string {
 	return string(c.Bytes(int(c.Number(uint64(most)))))
+}
+
+// Fixed reads a number of so many bytes, the lowest first.
+func (c *Cursor) Fixed(width int) uint64 {
+	n := uint64(0)
+	for i, b := range c.Bytes(width) {
+		n |= uint64(b) << (byteBits * i)
+	}
+	return n
 }

@@ -106,6 +106,34 @@ func TestTexts(t *testing.T) {
 	}
 }
 
+func TestFixed(t *testing.T) {
+	for _, c := range []struct {
+		n     uint64
+		width int
+		b     []byte
+	}{
+		{0, 0, nil}, {0, 2, []byte{0, 0}}, {1, 1, []byte{1}}, {0x1234, 2, []byte{0x34, 0x12}}, {0xfffe, 2, []byte{0xfe, 0xff}}, {0xe8b7be43, 4, []byte{0x43, 0xbe, 0xb7, 0xe8}},
+		{math.MaxUint64, 8, []byte{255, 255, 255, 255, 255, 255, 255, 255}}, {1 << 63, 8, []byte{0, 0, 0, 0, 0, 0, 0, 128}},
+	} {
+		if got := packed.AppendFixed([]byte{9}, c.n, c.width); !bytes.Equal(got[1:], c.b) || got[0] != 9 {
+			t.Errorf("%x in %d: % x", c.n, c.width, got)
+		}
+		r := packed.At(append(bytes.Clone(c.b), 200))
+		if n := r.Fixed(c.width); n != c.n || r.Fault() != api.OK || r.Read() != c.width {
+			t.Errorf("% x: %x, %v, %d", c.b, n, r.Fault(), r.Read())
+		}
+		for cut := range c.b {
+			r := packed.At(c.b[:cut])
+			if n := r.Fixed(c.width); n != 0 || r.Fault() != api.ErrFrame {
+				t.Errorf("% x: %x, %v", c.b[:cut], n, r.Fault())
+			}
+		}
+	}
+	if got := packed.AppendFixed(nil, 0x12345, 2); !bytes.Equal(got, []byte{0x45, 0x23}) {
+		t.Errorf("% x: what does not lie in two bytes is left out", got)
+	}
+}
+
 // What fails first is kept, and all behind it is nought.
 func TestFirstFault(t *testing.T) {
 	r := packed.At([]byte{5, 7, 1, 'a', 8})
@@ -115,7 +143,7 @@ func TestFirstFault(t *testing.T) {
 	r.Mark(6)
 	r.Fail(api.ErrSum)
 	read := r.Read()
-	if r.Fault() != api.ErrForm || r.Byte() != 0 || r.Number(9) != 0 || r.Signed() != 0 || r.Text(9) != "" || len(r.Bytes(1)) != 0 || r.Read() != read || r.Fault() != api.ErrForm {
+	if r.Fault() != api.ErrForm || r.Byte() != 0 || r.Number(9) != 0 || r.Signed() != 0 || r.Text(9) != "" || r.Fixed(2) != 0 || len(r.Bytes(1)) != 0 || r.Read() != read || r.Fault() != api.ErrForm {
 		t.Error(r)
 	}
 	r = packed.At([]byte{5})

@@ -87,11 +87,7 @@ func (r *reader) value() api.Datum {
 
 func (r *reader) whole(d *api.Datum) { d.Int = r.Signed() }
 
-func (r *reader) float(d *api.Datum) {
-	for shift := 0; shift < 64; shift += 8 {
-		d.Bits |= uint64(r.Byte()) << shift
-	}
-}
+func (r *reader) float(d *api.Datum) { d.Bits = r.Fixed(floatBytes) }
 
 func (r *reader) text(d *api.Datum) { d.Text = r.Text(api.MaxBytes) }
 

@@ -29,7 +29,7 @@ func appendValue(b []byte, d api.Datum) []byte {
 	case api.KInt, api.KKey:
 		b = packed.AppendSigned(b, d.Int)
 	case api.KFloat:
-		b = appendBits(b, d.Bits)
+		b = packed.AppendFixed(b, d.Bits, floatBytes)
 	case api.KText, api.KName, api.KBytes:
 		b = packed.AppendText(b, d.Text)
 	case api.KBool:
@@ -43,13 +43,6 @@ func appendValue(b []byte, d api.Datum) []byte {
 	}
 	for _, p := range d.List {
 		b = appendValue(b, p)
-	}
-	return b
-}
-
-func appendBits(b []byte, bits uint64) []byte {
-	for shift := 0; shift < 64; shift += 8 {
-		b = append(b, byte(bits>>shift))
 	}
 	return b
 }
