@@ -1,4 +1,4 @@
-// Package packed is numbers and texts as bytes, as chapters 26 and 27 have them: written behind others, and read by a cursor.
+// Package packed is numbers and texts as bytes, as chapters 26 to 28 have them: written behind others, and read by a cursor.
 package packed
 
 import (
@@ -37,6 +37,14 @@ func AppendText(b []byte, s string) []byte {
 	return append(AppendNumber(b, uint64(len(s))), s...)
 }
 
+// AppendTruth writes 1 or 0.
+func AppendTruth(b []byte, is bool) []byte {
+	if is {
+		return append(b, 1)
+	}
+	return append(b, 0)
+}
+
 // AppendFixed writes a number's lowest bytes, so many, the lowest first.
 func AppendFixed(b []byte, n uint64, width int) []byte {
 	for range width {
@@ -71,6 +79,9 @@ func (c *Cursor) Read() int { return c.at }
 
 // Left is how many bytes were not read yet.
 func (c *Cursor) Left() int { return len(c.bytes) - c.at }
+
+// Rest is these, which lie where they lay.
+func (c *Cursor) Rest() []byte { return c.bytes[c.at:] }
 
 // Bytes reads so many bytes, which lie where they lay: ErrFrame, if fewer are left.
 func (c *Cursor) Bytes(n int) []byte {
@@ -138,6 +149,15 @@ func (c *Cursor) Signed() int64 {
 // Text reads a text that is at most so long.
 func (c *Cursor) Text(most int) string {
 	return string(c.Bytes(int(c.Number(uint64(most)))))
+}
+
+// Truth reads a byte that must be 1 or 0.
+func (c *Cursor) Truth() bool {
+	b := c.Byte()
+	if b > 1 {
+		c.Fail(api.ErrForm)
+	}
+	return b == 1
 }
 
 // Fixed reads a number of so many bytes, the lowest first.

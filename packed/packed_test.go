@@ -134,6 +134,38 @@ func TestFixed(t *testing.T) {
 	}
 }
 
+func TestTruths(t *testing.T) {
+	if b := packed.AppendTruth(packed.AppendTruth([]byte{9}, true), false); !bytes.Equal(b, []byte{9, 1, 0}) {
+		t.Errorf("% x", b)
+	}
+	for _, c := range []struct {
+		b    []byte
+		is   bool
+		want api.Errno
+	}{{[]byte{0, 9}, false, api.OK}, {[]byte{1, 9}, true, api.OK}, {[]byte{2, 9}, false, api.ErrForm}, {[]byte{255}, false, api.ErrForm}, {nil, false, api.ErrFrame}} {
+		r := packed.At(c.b)
+		if is := r.Truth(); is != c.is || r.Fault() != c.want || c.want == api.OK && r.Left() != 1 {
+			t.Errorf("% x: %t, %v", c.b, is, r.Fault())
+		}
+	}
+}
+
+// Rest is what is left, read or not.
+func TestRest(t *testing.T) {
+	r := packed.At([]byte{5, 7, 1})
+	if b := r.Rest(); !bytes.Equal(b, []byte{5, 7, 1}) || r.Read() != 0 {
+		t.Errorf("% x", b)
+	}
+	r.Byte()
+	if b := r.Rest(); !bytes.Equal(b, []byte{7, 1}) || len(b) != r.Left() {
+		t.Errorf("% x", b)
+	}
+	r.Bytes(2)
+	if b := r.Rest(); len(b) != 0 || r.Fault() != api.OK {
+		t.Errorf("% x", b)
+	}
+}
+
 // What fails first is kept, and all behind it is nought.
 func TestFirstFault(t *testing.T) {
 	r := packed.At([]byte{5, 7, 1, 'a', 8})
