@@ -1,4 +1,4 @@
-// Package packed is numbers and texts as bytes, as chapters 26 to 28 have them: written behind others, and read by a cursor.
+// Package packed is numbers and texts as bytes, as chapters 26 to 29 have them: written behind others, read by a cursor, and given up, where they have not the form that is read.
 package packed
 
 import (

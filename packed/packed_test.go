@@ -3,6 +3,7 @@ package packed_test
 import (
 	"bytes"
 	"math"
+	"reflect"
 	"testing"
 
 	"conduit/api"
@@ -190,5 +191,35 @@ func TestFirstFault(t *testing.T) {
 	r = packed.At(nil)
 	if r.Mark(0); r.Fault() != api.ErrFrame {
 		t.Error("a byte that must stand there, behind the end:", r.Fault())
+	}
+}
+
+// What is given up, from however deep within, has not the form; nothing else is taken for that.
+func TestGivenUp(t *testing.T) {
+	done := 0
+	if fault := packed.Caught(func() { packed.Need(true); done++ }); fault != api.OK || done != 1 {
+		t.Error(fault, done)
+	}
+	deep := func() { packed.Need(false); done++ }
+	if fault := packed.Caught(func() { deep(); done++ }); fault != api.ErrForm || done != 1 {
+		t.Error(fault, done)
+	}
+	if fault := packed.Caught(func() {
+		if inner := packed.Caught(deep); inner != api.ErrForm {
+			t.Error(inner)
+		}
+		done++
+	}); fault != api.OK || done != 2 {
+		t.Error(fault, done)
+	}
+	for _, other := range []any{"other", api.ErrForm, []int{1}} {
+		came := func() (came any) {
+			defer func() { came = recover() }()
+			packed.Caught(func() { panic(other) })
+			return nil
+		}()
+		if !reflect.DeepEqual(came, other) {
+			t.Errorf("%v became %v", other, came)
+		}
 	}
 }

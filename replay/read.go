@@ -1,7 +1,6 @@
 package replay
 
 import (
-	"errors"
 	"math"
 
 	"conduit/api"
@@ -10,32 +9,6 @@ import (
 	"conduit/packed"
 	"conduit/wire"
 )
-
-// errGivenUp is what bytes are given up with that are no recording, from however deep within them.
-var errGivenUp = errors.New("the recording is given up")
-
-// need gives up, if what must be so is not.
-func need(is bool) {
-	if !is {
-		panic(errGivenUp)
-	}
-}
-
-// caught lets bytes be read, and tells whether they were given up.
-func caught(read func()) (fault api.Errno) {
-	defer func() {
-		switch came := recover(); came {
-		case nil:
-		case errGivenUp:
-			fault = api.ErrForm
-		default:
-			// Nothing that bytes can have: to take it for a fault of theirs would hide it.
-			panic(came)
-		}
-	}()
-	read()
-	return api.OK
-}
 
 // recording is what was written down: behind each step, in a place of the same number, its events.
 type recording struct {
@@ -46,7 +19,7 @@ type recording struct {
 
 func recordingIn(b []byte) recording {
 	l, _, fault := journal.Open(b)
-	need(fault == api.OK && len(l) > 0)
+	packed.Need(fault == api.OK && len(l) > 0)
 	told := recording{text: textIn(l[0])}
 	for _, record := range l[1:] {
 		told.take(entryIn(record))
@@ -61,7 +34,7 @@ func (told *recording) take(x entry) {
 		told.steps = append(told.steps, api.Step(x))
 		told.events = append(told.events, nil)
 	case event:
-		need(len(told.steps) > 0)
+		packed.Need(len(told.steps) > 0)
 		last := &told.events[len(told.events)-1]
 		*last = append(*last, api.Event(x))
 	}
@@ -69,7 +42,7 @@ func (told *recording) take(x entry) {
 
 // textIn is the text of the plan whose record it is.
 func textIn(record []byte) string {
-	need(len(record) > 0 && record[0] == planMark)
+	packed.Need(len(record) > 0 && record[0] == planMark)
 	return string(record[1:])
 }
 
@@ -83,7 +56,7 @@ func entryIn(record []byte) entry {
 	case eventMark:
 		x = r.event()
 	}
-	need(x != nil && r.Fault() == api.OK && r.Left() == 0)
+	packed.Need(x != nil && r.Fault() == api.OK && r.Left() == 0)
 	return x
 }
 
@@ -112,7 +85,7 @@ func (r *reader) step() step {
 		s.Arg = r.value()
 		s.Deep = r.Truth()
 	}
-	need(bus.Step(s))
+	packed.Need(bus.Step(s))
 	return step(s)
 }
 
@@ -128,7 +101,7 @@ func (r *reader) message() (m api.Msg) {
 
 func (r *reader) value() api.Datum {
 	d, n, fault := wire.ReadDatum(r.Rest())
-	need(fault == api.OK)
+	packed.Need(fault == api.OK)
 	r.Bytes(n)
 	return d
 }
